@@ -1,0 +1,1 @@
+"""Pickboard: parts picked from feeders by heads and laid on a board."""
