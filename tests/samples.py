@@ -1,6 +1,7 @@
 """What several test files ask for: jobs, things of all kinds, brute-force answers."""
 
-from itertools import permutations
+from itertools import combinations, permutations, product
+from random import Random
 
 GATE = (0, 0)
 FEEDERS = (("chip", (10, 0), 3), ("diode", (20, 0), 2), ("chip", (30, 0), 2), ("coil", (40, 0), 1))
@@ -39,6 +40,13 @@ def job_with(feeders=FEEDERS, parts=PARTS, aheads=AHEADS):
     return (GATE, 2, feeders, parts, aheads)
 
 
+FREE_JOB = job_with(aheads=())
+
+# Trips that make up a whole right plan of JOB, one behind the other.
+ONE = (((2, 2), (0, 0)), (0, 2))
+TWO = (((1, 1), (3, 1)), (1, 3))
+
+
 def board_of(many):
     """So many parts of one kind, each at a place of its own."""
     return tuple(("chip", (at, 7)) for at in range(many))
@@ -62,3 +70,89 @@ def closure_of(many, aheads):
         if joined == pairs:
             return pairs
         pairs = joined
+
+
+def some_job(seed, many, *, feeders=4, kinds=2, heads=3, pairs=2, most=5, side=9):
+    """A job of so many parts, the same one for the same seed; a feeder has from 0 to most parts."""
+    chance = Random(seed)
+    names = ["chip", "diode", "coil", "a"][:kinds]
+    spots = [(x, y) for x in range(side) for y in range(side)]
+    rows = [(names[at % kinds], chance.choice(spots), chance.randint(0, most)) for at in range(feeders)]
+    chance.shuffle(rows)
+    parts = [(chance.choice(names), place) for place in chance.sample(spots, many)]
+    order = chance.sample(range(many), many)
+    aheads = []
+    for step in range(pairs if many > 1 else 0):
+        one, other = sorted(chance.sample(range(many), 2))
+        aheads.append((order[one], order[other]))
+    return (chance.choice(spots), heads, tuple(rows), tuple(parts), tuple(aheads))
+
+
+def stocked(job):
+    """The job with feeders that have more than enough of all."""
+    return put_at(job, 2, tuple((kind, place, len(job[3])) for kind, place, many in job[2]))
+
+
+def far(one, other):
+    return max(abs(one[0] - other[0]), abs(one[1] - other[1]))
+
+
+def way_by_hand(job, trip):
+    """The way of a trip, reckoned from one stop to the next."""
+    way, at = 0, job[0]
+    for place in [job[2][feeder][1] for part, feeder in trip[0]] + [job[3][part][1] for part in trip[1]] + [job[0]]:
+        way, at = way + far(at, place), place
+    return way
+
+
+def all_trips(job, parts):
+    """All trips of just these parts, from feeders of their kinds, in orders that are let."""
+    joined = closure_of(len(job[3]), job[4])
+    holding = {part: [at for at, row in enumerate(job[2]) if row[0] == job[3][part][0]] for part in parts}
+    orders = [lays for lays in permutations(parts)
+              if not any((other, one) in joined for one, other in combinations(lays, 2))]
+    for order in permutations(parts):
+        for chosen in product(*[holding[part] for part in order]):
+            for lays in orders:
+                yield (tuple(zip(order, chosen)), lays)
+
+
+def groups_of(many, most):
+    """All rising tuples of one to most of so many parts."""
+    return [group for size in range(1, most + 1) for group in combinations(range(many), size)]
+
+
+def all_flaws(job, plan):
+    """All flaws of a plan as tuples (trip, place, rank, word), by going through its clauses one by one."""
+    joined = closure_of(len(job[3]), job[4])
+    flaws = []
+    for at, (picks, lays) in enumerate(plan):
+        for place, (part, feeder) in enumerate(picks):
+            ahead = [pick for row in plan[:at] for pick in row[0]]
+            if job[2][feeder][0] != job[3][part][0]:
+                flaws.append((at, place, 0, "kind"))
+            if part in [pick[0] for pick in ahead]:
+                flaws.append((at, place, 1, "twice"))
+            if [pick[1] for pick in ahead + list(picks[:place])].count(feeder) >= job[2][feeder][2]:
+                flaws.append((at, place, 2, "empty"))
+        for place, part in enumerate(lays):
+            stand = [one for row in plan[:at] for one in row[1]] + list(lays[:place])
+            if any(other == part and one not in stand for one, other in joined):
+                flaws.append((at, len(picks) + place, 3, "ahead"))
+    return sorted(flaws)
+
+
+def lone(part, feeder):
+    """A trip of one part alone."""
+    return (((part, feeder),), (part,))
+
+
+def some_plan(chance, job):
+    """A list of trips of a job, most of them not right together."""
+    plan = []
+    for step in range(chance.randint(0, 4)):
+        parts = chance.sample(range(len(job[3])), chance.randint(1, min(job[1], len(job[3]))))
+        feeders = [chance.choice([at for at, row in enumerate(job[2]) if row[0] == job[3][part][0]])
+                   if chance.random() < 0.9 else chance.randrange(len(job[2])) for part in parts]
+        plan.append((tuple(zip(parts, feeders)), tuple(chance.sample(parts, len(parts)))))
+    return plan

@@ -56,6 +56,13 @@ def names_bound(tree):
     return names
 
 
+def called(node):
+    """The name of what is called, the empty text of what is no call."""
+    if not isinstance(node, ast.Call):
+        return ""
+    return node.func.id if isinstance(node.func, ast.Name) else getattr(node.func, "attr", "")
+
+
 class LanguageTest(unittest.TestCase):
     def walk(self):
         for path in FILES:
@@ -145,6 +152,68 @@ class LanguageTest(unittest.TestCase):
         for where, node in self.walk():
             if isinstance(node, ast.Attribute):
                 self.assertIn(node.attr, ALLOWED_METHODS | given, where)
+
+    def test_no_local_is_called_like_an_import_or_a_class(self):
+        for path in FILES:
+            tree = ast.parse(path.read_text())
+            tops = {node.name for node in tree.body if isinstance(node, ast.ClassDef)}
+            for node in tree.body:
+                if isinstance(node, ast.ImportFrom):
+                    tops |= {alias.asname or alias.name for alias in node.names}
+            for node in ast.walk(tree):
+                if isinstance(node, ast.FunctionDef):
+                    self.assertEqual(set(names_bound(node)) & tops, set(), f"{path.name}:{node.lineno}")
+
+    def test_files_do_not_draw_from_one_another(self):
+        drawn = {}
+        for path in FILES:
+            rows = [node for node in ast.parse(path.read_text()).body if isinstance(node, ast.ImportFrom)]
+            drawn[path.stem] = {node.module.split(".")[-1] for node in rows}
+        while drawn:
+            free = [name for name in drawn if not drawn[name] & set(drawn)]
+            self.assertNotEqual(free, [], drawn)
+            drawn = {name: drawn[name] for name in drawn if name not in free}
+
+    def test_an_imported_name_is_defined_in_that_very_file_and_used(self):
+        for path in FILES:
+            tree = ast.parse(path.read_text())
+            asked = {node.id for node in ast.walk(tree) if isinstance(node, ast.Name)}
+            for node in tree.body:
+                if isinstance(node, ast.ImportFrom):
+                    other = ast.parse((PACKAGE / (node.module.split(".")[-1] + ".py")).read_text())
+                    rows = [row for row in other.body if not isinstance(row, ast.ImportFrom)]
+                    own = names_bound(ast.Module(rows, []))
+                    for alias in node.names:
+                        self.assertIn(alias.name, own, path.name)
+                        self.assertIn(alias.name, asked, path.name)
+
+    def calls_within(self):
+        """Each call and set that is written, with what it stands in."""
+        for path in FILES:
+            for parent in ast.walk(ast.parse(path.read_text())):
+                for child in ast.iter_child_nodes(parent):
+                    if isinstance(child, (ast.Call, ast.Set, ast.SetComp)):
+                        yield f"{path.name}:{child.lineno}", parent, child
+
+    def test_walked_at_once(self):
+        takers = set("list tuple dict sorted sum any all enumerate zip bytes min max".split())
+        for where, parent, call in self.calls_within():
+            if called(call) in set("zip enumerate reversed range items keys values".split()):
+                if isinstance(parent, (ast.For, ast.comprehension)):
+                    self.assertIs(parent.iter, call, where)
+                elif isinstance(parent, ast.Compare):
+                    self.assertIsInstance(parent.ops[0], (ast.In, ast.NotIn), where)
+                else:
+                    self.assertIn(called(parent), takers | {"join"}, where)
+
+    def test_sets_are_asked_on_the_spot_or_kept_by_a_local(self):
+        for where, parent, made in self.calls_within():
+            self.assertNotEqual(called(made), "frozenset", where)
+            if isinstance(made, (ast.Set, ast.SetComp)) or called(made) == "set":
+                if isinstance(parent, ast.Call):
+                    self.assertIn(called(parent), ["len", "sorted"], where)
+                else:
+                    self.assertIsInstance(parent, (ast.Compare, ast.Assign), where)
 
 
 if __name__ == "__main__":
