@@ -90,3 +90,17 @@ def shows_shortest(job, parts, thing):
 def alone_ways(job):
     """The list of the least way of each part by itself."""
     return [shortest_trip(job, [part])[0] for part in range(len(job[3]))]
+
+
+def groups_upto(parts, most):
+    """All groups of one to most of some parts, as tuples, the parts in the order in which they come."""
+    groups = [()]
+    for part in parts:
+        groups = groups + [group + (part,) for group in groups if len(group) < most]
+    return groups[1:]
+
+
+def group_ways(job):
+    """For each group of one to heads parts of a job, a rising tuple, the least way of a trip of them."""
+    groups = groups_upto(list(range(len(job[3]))), job[1])
+    return {group: shortest_trip(job, list(group))[0] for group in groups}

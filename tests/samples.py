@@ -19,7 +19,7 @@ def deep_thing(depth):
     return thing
 
 
-# Things of every kind that is told as "anything", none of them a name, a place or a job.
+# Things of every kind that is told as "anything", none of them a place or a job, and "abcde" alone a name.
 ODD_THINGS = [
     None, True, False, 0, 1, -1, 5, 10 ** 30, -(10 ** 30),
     "", "A", "1", " ", "a b", "a\n", "\n", "letters\n", "ninechars", "Chip", "chip1", "~",
