@@ -18,7 +18,7 @@ def refuse_unfit(job):
     if not is_stocked(job):
         raise NotStocked("a feeder has fewer parts than there are parts of its kind")
     if len(job[3]) > MOST_PARTS:
-        raise TooMany(f"a job of more than {MOST_PARTS} parts")
+        raise TooMany("the job has too many parts for a table of its sets")
 
 
 def all_parts(job):

@@ -10,7 +10,7 @@ MOST_PARTS = 12
 def refuse_many(job):
     """Refuses jobs of too many parts."""
     if len(job[3]) > MOST_PARTS:
-        raise TooMany(f"a job of more than {MOST_PARTS} parts")
+        raise TooMany("the job has too many parts for prices")
 
 
 def together(prices, group):
