@@ -5,12 +5,15 @@ LONGEST_NAME = 8
 FARTHEST = 1000
 
 
+def is_number(thing):
+    """Whether something is a whole number."""
+    # Python takes True and False for whole numbers; the document doesn't.
+    return isinstance(thing, int) and not isinstance(thing, bool)
+
+
 def is_number_within(thing, least, most):
     """Whether something is a whole number from least to most."""
-    # Python takes True and False for whole numbers; the document doesn't.
-    if not isinstance(thing, int) or isinstance(thing, bool):
-        return False
-    return least <= thing <= most
+    return is_number(thing) and least <= thing <= most
 
 
 def is_name(thing):

@@ -156,3 +156,50 @@ def some_plan(chance, job):
                    if chance.random() < 0.9 else chance.randrange(len(job[2])) for part in parts]
         plan.append((tuple(zip(parts, feeders)), tuple(chance.sample(parts, len(parts)))))
     return plan
+
+
+def right_plan(chance, job, whole=False):
+    """A right plan of a job, of some of its parts or of all that the feeders have parts for."""
+    many = len(job[3])
+    joined = closure_of(many, job[4])
+    left = [row[2] for row in job[2]]
+    rank = {part: (sum(1 for one, other in joined if other == part), chance.random()) for part in range(many)}
+    order, feeder_of = [], {}
+    for part in sorted(rank, key=rank.get):
+        ready = [at for at, row in enumerate(job[2]) if row[0] == job[3][part][0] and left[at] > 0]
+        fits = all(one in order for one, other in joined if other == part)
+        if ready and fits and (whole or chance.random() < 0.85):
+            order.append(part)
+            feeder_of[part] = chance.choice(ready)
+            left[feeder_of[part]] -= 1
+    plan = []
+    while order:
+        size = chance.randint(1, job[1])
+        lays, order = order[:size], order[size:]
+        plan.append((tuple((part, feeder_of[part]) for part in chance.sample(lays, len(lays))), tuple(lays)))
+    return plan
+
+
+def lists_in(thing):
+    """All lists that a thing holds, itself among them."""
+    within = [one for part in thing for one in lists_in(part)] if isinstance(thing, (list, tuple)) else []
+    return ([thing] if isinstance(thing, list) else []) + within
+
+
+def otherwise(thing):
+    """Things that are like this one but for one step, at each depth."""
+    if isinstance(thing, bool) or thing is None:
+        return [0, 1, ""]
+    if isinstance(thing, int):
+        return [thing + 1, thing - 1, str(thing), None] + ([bool(thing)] if thing in (0, 1) else [])
+    if isinstance(thing, str):
+        return [thing + "x", thing[1:], thing.upper() + "A", None, [thing]]
+    kind = thing.__class__
+    found = [list(thing) if kind is tuple else tuple(thing), thing + kind([0]), kind([thing])]
+    for at in range(len(thing)):
+        head, one, tail = thing[:at], thing[at], thing[at + 1:]
+        found += [head + tail, head + kind([one, one]) + tail]
+        found += [head + kind([other]) + tail for other in otherwise(one)]
+        if tail and tail[0] != one:
+            found.append(head + kind([tail[0], one]) + tail[1:])
+    return found
